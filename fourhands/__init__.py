@@ -1,0 +1,1 @@
+"""Hands of bridge; what can be called stands in fourhands.desk."""
