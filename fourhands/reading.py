@@ -1,20 +1,16 @@
 """Reads a deal from its bytes and says why a text is none."""
 
-RANKS = 13
-PLAYERS = 4
+from fourhands.basics import BLANK, CARDS, MISPLACED, NOBODY, PLAYERS, RANKS
+
 SPADES = 3
 CLUBS = 0
-NOBODY = 4
-CARDS = 52
 
-BLANK = 32
 POINT = 46
 RANK_OF_LETTER = {
     50: 0, 51: 1, 52: 2, 53: 3, 54: 4, 55: 5, 56: 6, 57: 7,
     84: 8, 74: 9, 81: 10, 75: 11, 65: 12,
 }
 
-MISPLACED = -100
 UNEVEN = -5
 SHARED = -6
 

@@ -1,12 +1,11 @@
 """Promise 1, deal, and what the document says ahead of it."""
 
-import contextlib
 import functools
-import io
 import re
 import unittest
 
 from fourhands.desk import deal
+from helper import Manners, bytes_of
 
 EXAMPLE = "A.K.. .A.2. 2..A. ..K.A"
 ONE_EACH = "A... .A.. ..A. ...A"
@@ -22,7 +21,7 @@ DEAL = re.compile(HAND + (" " + HAND) * 3)
 
 
 def ask(text):
-    return deal(list(text.encode("latin-1")))
+    return deal(bytes_of(text))
 
 
 @functools.lru_cache(maxsize=None)
@@ -54,16 +53,6 @@ def expected(text):
         return [-6]
     owner = {card: player for player, hand in enumerate(held) for card in hand}
     return [len(held[0])] + [owner.get(card, 4) for card in range(52)]
-
-
-class Untouchable(list):
-    """A list that can be read alone."""
-
-    def refuse(self, *given, **named):
-        raise AssertionError("the list that was handed in is changed")
-
-    append = clear = extend = insert = pop = remove = reverse = sort = refuse
-    __setitem__ = __delitem__ = __iadd__ = __imul__ = refuse
 
 
 class OrdinaryDeals(unittest.TestCase):
@@ -267,56 +256,14 @@ class EveryChangeOfADeal(unittest.TestCase):
                     self.check("".join(signs))
 
 
-class WhatIsHandedInAndBack(unittest.TestCase):
-    TEXTS = (EXAMPLE, ONE_EACH, ONE_SUIT_EACH, MIXED, "", "A.K", NO_CARDS, "A... A... A... A...", "." * 300)
-
-    def test_refusal_is_a_list_of_one_number(self):
-        for text in self.TEXTS[4:]:
-            answer = ask(text)
-            self.assertEqual(len(answer), 1)
-            self.assertLess(answer[0], 0)
+class WhatIsHandedInAndBack(Manners, unittest.TestCase):
+    function = staticmethod(deal)
+    granted = ((EXAMPLE,), (ONE_EACH,), (ONE_SUIT_EACH,), (MIXED,))
+    refused = (("",), ("A.K",), (NO_CARDS,), ("A... A... A... A...",), ("." * 300,))
 
     def test_deal_is_a_list_of_53_numbers(self):
-        for text in self.TEXTS[:4]:
-            self.assertEqual(len(ask(text)), 53)
-
-    def test_kinds(self):
-        for text in self.TEXTS:
-            answer = ask(text)
-            self.assertIs(type(answer), list)
-            for number in answer:
-                self.assertIs(type(number), int)
-
-    def test_text_is_as_it_was(self):
-        for text in self.TEXTS:
-            handed = list(text.encode("ascii"))
-            kept = list(handed)
-            deal(handed)
-            self.assertEqual(handed, kept)
-
-    def test_text_is_not_changed_for_a_while_either(self):
-        for text in self.TEXTS:
-            self.assertEqual(deal(Untouchable(text.encode("ascii"))), ask(text))
-
-    def test_second_call_answers_the_same(self):
-        for text in self.TEXTS:
-            first = ask(text)
-            kept = list(first)
-            for between in self.TEXTS:
-                ask(between)
-            second = ask(text)
-            self.assertEqual(second, kept)
-            second.append(7)
-            second[0] = 99
-            self.assertEqual(first, kept)
-            self.assertEqual(ask(text), kept)
-
-    def test_nothing_is_printed(self):
-        printed = io.StringIO()
-        with contextlib.redirect_stdout(printed), contextlib.redirect_stderr(printed):
-            for text in self.TEXTS:
-                ask(text)
-        self.assertEqual(printed.getvalue(), "")
+        for arguments in self.granted:
+            self.assertEqual(len(self.ask(arguments)), 53)
 
 
 if __name__ == "__main__":

@@ -1,0 +1,94 @@
+"""What several files of tests share."""
+
+import contextlib
+import io
+
+LOWEST = -2147483648
+HIGHEST = 2147483647
+
+
+def bytes_of(text):
+    return list(text.encode("latin-1"))
+
+
+class Untouchable(list):
+    """A list that can be read alone."""
+
+    def refuse(self, *given, **named):
+        raise AssertionError("the list that was handed in is changed")
+
+    append = clear = extend = insert = pop = remove = reverse = sort = refuse
+    __setitem__ = __delitem__ = __iadd__ = __imul__ = refuse
+
+
+def handed(arguments, make=list):
+    """The arguments as they are handed in: a text as its bytes, each list made by make."""
+    given = []
+    for argument in arguments:
+        if isinstance(argument, str):
+            argument = bytes_of(argument)
+        given.append(make(argument) if isinstance(argument, list) else argument)
+    return given
+
+
+class Manners:
+    """What the document asks of every function.
+
+    A class of tests beside it names the function in `function` and tuples of arguments in `granted` and `refused`.
+    """
+
+    def ask(self, arguments):
+        return self.function(*handed(arguments))
+
+    def asked(self):
+        return list(self.granted) + list(self.refused)
+
+    def test_refusal_is_a_list_of_one_number(self):
+        for arguments in self.refused:
+            with self.subTest(arguments=arguments):
+                answer = self.ask(arguments)
+                self.assertEqual(len(answer), 1)
+                self.assertLess(answer[0], 0)
+
+    def test_kinds(self):
+        for arguments in self.asked():
+            answer = self.ask(arguments)
+            self.assertIs(type(answer), list)
+            for number in answer:
+                self.assertIs(type(number), int)
+
+    def test_what_is_handed_in_is_as_it_was(self):
+        for arguments in self.asked():
+            given = handed(arguments)
+            self.function(*given)
+            self.assertEqual(given, handed(arguments))
+
+    def test_what_is_handed_in_is_not_changed_for_a_while_either(self):
+        for arguments in self.asked():
+            self.assertEqual(self.function(*handed(arguments, Untouchable)), self.ask(arguments))
+
+    def test_what_is_handed_in_is_not_handed_back(self):
+        for arguments in self.asked():
+            given = handed(arguments)
+            answer = self.function(*given)
+            self.assertFalse([argument for argument in given if argument is answer])
+
+    def test_second_call_answers_the_same(self):
+        for arguments in self.asked():
+            first = self.ask(arguments)
+            kept = list(first)
+            for between in self.asked()[:12]:
+                self.ask(between)
+            second = self.ask(arguments)
+            self.assertEqual(second, kept)
+            second.append(7)
+            second[0] = 99
+            self.assertEqual(first, kept)
+            self.assertEqual(self.ask(arguments), kept)
+
+    def test_nothing_is_printed(self):
+        printed = io.StringIO()
+        with contextlib.redirect_stdout(printed), contextlib.redirect_stderr(printed):
+            for arguments in self.asked():
+                self.ask(arguments)
+        self.assertEqual(printed.getvalue(), "")
