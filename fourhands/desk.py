@@ -3,9 +3,12 @@
 from fourhands.basics import PLAYERS
 from fourhands.bidding import hear_calls
 from fourhands.reading import owners_of, read_deal
+from fourhands.scoring import points_of
 
 LONGEST_TEXT = 300
 OUT_OF_RANGE = -2
+# Numbers below 0 are points too, so the refusal of points lies below all that can be reckoned.
+NO_POINTS = -1000000
 
 
 def deal(text):
@@ -23,3 +26,10 @@ def calls(dealer, text):
     if len(text) > LONGEST_TEXT or not 0 <= dealer < PLAYERS:
         return [OUT_OF_RANGE]
     return hear_calls(dealer, text)
+
+
+def points(level, strain, doubled, vulnerable, tricks):
+    """Answer what the declarer's side gets, below 0 what the others get; or the refusal."""
+    if not (1 <= level <= 7 and 0 <= strain <= 4 and 0 <= doubled <= 2 and 0 <= vulnerable <= 1 and 0 <= tricks <= 13):
+        return [NO_POINTS]
+    return [points_of(level, strain, doubled, vulnerable, tricks)]
