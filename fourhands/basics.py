@@ -6,6 +6,9 @@ NOBODY = 4
 RANKS = 13
 CARDS = 52
 
+# The strain, and the trump, that is none of the suits.
+NO_TRUMP = 4
+
 BLANK = 32
 
 MISPLACED = -100
@@ -20,3 +23,8 @@ def side_of(player):
 def player_after(player):
     """Give back who plays and calls after player."""
     return (player + 1) % PLAYERS
+
+
+def suit_of(card):
+    """Give back the suit of card."""
+    return card // RANKS

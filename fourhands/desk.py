@@ -1,7 +1,8 @@
 """The calls that can be asked; each answers a list of whole numbers."""
 
-from fourhands.basics import PLAYERS
+from fourhands.basics import CARDS, NO_TRUMP, PLAYERS
 from fourhands.bidding import hear_calls
+from fourhands.playing import play_cards
 from fourhands.reading import owners_of, read_deal
 from fourhands.scoring import points_of
 
@@ -33,3 +34,18 @@ def points(level, strain, doubled, vulnerable, tricks):
     if not (1 <= level <= 7 and 0 <= strain <= 4 and 0 <= doubled <= 2 and 0 <= vulnerable <= 1 and 0 <= tricks <= 13):
         return [NO_POINTS]
     return [points_of(level, strain, doubled, vulnerable, tricks)]
+
+
+def play(trump, leader, text, cards):
+    """Answer how many tricks are done, those of either side, who's to play and what lies there; or a refusal."""
+    if len(text) > LONGEST_TEXT or len(cards) > CARDS or not may_lead(trump, leader):
+        return [OUT_OF_RANGE]
+    reader = read_deal(text)
+    if reader.refusal < 0:
+        return [reader.refusal]
+    return play_cards(trump, leader, reader.hands, cards)
+
+
+def may_lead(trump, leader):
+    """Tell whether trump and leader are as said."""
+    return 0 <= trump <= NO_TRUMP and 0 <= leader < PLAYERS

@@ -1,8 +1,9 @@
 """Reckons the points of a contract by the tricks that its declarer's side took."""
 
+from fourhands.basics import NO_TRUMP
+
 # A tuple of two holds what counts not vulnerable, then vulnerable; one of three what counts by doubled.
 BOOK = 6
-NO_TRUMP = 4
 TRICK_POINTS = (20, 20, 30, 30, 30)
 NO_TRUMP_POINTS = 10
 TIMES_BY_DOUBLED = (1, 2, 4)

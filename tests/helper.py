@@ -6,9 +6,57 @@ import io
 LOWEST = -2147483648
 HIGHEST = 2147483647
 
+LETTERS = "23456789TJQKA"
+
+# Texts of at most 35 bytes that are no deals, and what they are refused by.
+DEAL_ERRORS = (
+    ("", -100),
+    (" ", -100),
+    ("x", -100),
+    ("A.K", -103),
+    ("AA... .A.. ..A. ...A", -101),
+    ("KA... .A.. ..A. ...A", -101),
+    ("A.... .A.. ..A. ...A", -104),
+    ("A.. .A.. ..A. ...A", -103),
+    ("A... .A.. ..A.", -114),
+    ("A... .A.. ..A. ..A", -118),
+    ("A... .A.. ..A. ...A ", -119),
+    ("A... .A.. ..A. ...A ...A", -119),
+    ("A... A... A... A...?", -119),
+    ("A... .A.. ..A. ...a", -118),
+    ("... ... ... ...", -5),
+    ("AK... .A.. ..A. ...A", -5),
+    ("A... .A.. ..A. ...", -5),
+    ("A... A... A... AK...", -5),
+    ("A... .A.. ..A. A...", -6),
+    ("AK... QJ... T9... 98...", -6),
+)
+
 
 def bytes_of(text):
     return list(text.encode("latin-1"))
+
+
+def hands_of(text):
+    """The numbers of the cards of each hand of a deal without an error."""
+    return [[13 * suit + LETTERS.index(letter)
+             for suit, letters in enumerate(reversed(hand.split("."))) for letter in letters]
+            for hand in text.split(" ")]
+
+
+def deal_of(hands):
+    """The text of a deal of hands."""
+    told = []
+    for hand in hands:
+        suits = [[number % 13 for number in sorted(hand, reverse=True) if number // 13 == suit] for suit in (3, 2, 1, 0)]
+        told.append(".".join("".join(LETTERS[rank] for rank in ranks) for ranks in suits))
+    return " ".join(told)
+
+
+def random_deal(chance, count, pack=range(52)):
+    """The text of a deal of count cards each out of pack."""
+    dealt = chance.sample(list(pack), 4 * count)
+    return deal_of([dealt[start:start + count] for start in range(0, 4 * count, count)])
 
 
 class Untouchable(list):

@@ -5,7 +5,7 @@ import re
 import unittest
 
 from fourhands.desk import deal
-from helper import Manners, bytes_of
+from helper import DEAL_ERRORS, Manners, bytes_of
 
 EXAMPLE = "A.K.. .A.2. 2..A. ..K.A"
 ONE_EACH = "A... .A.. ..A. ...A"
@@ -225,6 +225,14 @@ class WrongHands(unittest.TestCase):
     def test_as_many_cards_but_more_than_thirteen(self):
         self.refused(" ".join(["AKQJT98765432.A.."] * 4), -6)
         self.refused(" ".join([".".join([LETTERS[::-1]] * 4)] * 4), -6)
+
+
+class EachError(unittest.TestCase):
+    def test_each(self):
+        for text, number in DEAL_ERRORS:
+            with self.subTest(text=text):
+                self.assertEqual(ask(text), [number])
+                self.assertEqual(expected(text), [number])
 
 
 class EveryChangeOfADeal(unittest.TestCase):
