@@ -5,9 +5,12 @@ from fourhands.bidding import hear_calls
 from fourhands.playing import play_cards
 from fourhands.reading import owners_of, read_deal
 from fourhands.scoring import points_of
+from fourhands.search import best_play
 
 LONGEST_TEXT = 300
+MOST_CARDS_SEARCHED = 8
 OUT_OF_RANGE = -2
+TOO_MANY_CARDS = -7
 # Numbers below 0 are points too, so the refusal of points lies below all that can be reckoned.
 NO_POINTS = -1000000
 
@@ -44,6 +47,18 @@ def play(trump, leader, text, cards):
     if reader.refusal < 0:
         return [reader.refusal]
     return play_cards(trump, leader, reader.hands, cards)
+
+
+def best(trump, leader, text):
+    """Answer the worth of leader's side, then the cards of best play; or a refusal."""
+    if len(text) > LONGEST_TEXT or not may_lead(trump, leader):
+        return [OUT_OF_RANGE]
+    reader = read_deal(text)
+    if reader.refusal < 0:
+        return [reader.refusal]
+    if len(reader.hands[0]) > MOST_CARDS_SEARCHED:
+        return [TOO_MANY_CARDS]
+    return best_play(trump, leader, reader.hands)
 
 
 def may_lead(trump, leader):

@@ -59,6 +59,71 @@ def random_deal(chance, count, pack=range(52)):
     return deal_of([dealt[start:start + count] for start in range(0, 4 * count, count)])
 
 
+def taker(trump, leader, trick):
+    """Who has a trick of four cards, told by holding them all against one another at once."""
+    led = trick[0] // 13
+
+    def strength(number):
+        suit = number // 13
+        return (suit == trump, suit == led, number)
+
+    return (leader + trick.index(max(trick, key=strength))) % 4
+
+
+class AllPlays:
+    """Another way of reckoning best play: every card that may be played is tried, and nothing is left out."""
+
+    def __init__(self, trump, text):
+        self.trump = trump
+        self.hands = hands_of(text)
+        self.known = {}
+
+    def allowed(self, leader, left, trick):
+        turn = (leader + len(trick)) % 4
+        held = [number for number in self.hands[turn] if number in left]
+        following = [number for number in held if trick and number // 13 == trick[0] // 13]
+        return following or held
+
+    def tricks(self, leader, left, trick=()):
+        """How many of the tricks to come go to players 0 and 2."""
+        if not left and not trick:
+            return 0
+        if len(trick) == 4:
+            winner = taker(self.trump, leader, trick)
+            return (winner + 1) % 2 + self.tricks(winner, left)
+        key = (leader, left, trick)
+        if key not in self.known:
+            choose = (max, min)[(leader + len(trick)) % 2]
+            self.known[key] = choose(self.tricks(leader, left - {number}, trick + (number,))
+                                     for number in self.allowed(leader, left, trick))
+        return self.known[key]
+
+    def all_cards(self):
+        return frozenset(number for hand in self.hands for number in hand)
+
+    def worth(self, leader):
+        """The worth of leader's side."""
+        tricks = self.tricks(leader, self.all_cards())
+        return tricks if leader % 2 == 0 else len(self.hands[0]) - tricks
+
+    def best(self, leader):
+        """What best is to answer."""
+        answer = [self.worth(leader)]
+        left = self.all_cards()
+        trick = ()
+        while left:
+            worth = self.tricks(leader, left, trick)
+            card = max(number for number in self.allowed(leader, left, trick)
+                       if self.tricks(leader, left - {number}, trick + (number,)) == worth)
+            answer.append(card)
+            left -= {card}
+            trick += (card,)
+            if len(trick) == 4:
+                leader = taker(self.trump, leader, trick)
+                trick = ()
+        return answer
+
+
 class Untouchable(list):
     """A list that can be read alone."""
 

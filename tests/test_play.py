@@ -5,7 +5,7 @@ import random
 import unittest
 
 from fourhands.desk import play
-from helper import DEAL_ERRORS, HIGHEST, LOWEST, Manners, bytes_of, hands_of, random_deal
+from helper import DEAL_ERRORS, HIGHEST, LOWEST, Manners, bytes_of, hands_of, random_deal, taker
 
 EXAMPLE = "A.K.. .A.2. 2..A. ..K.A"
 ONE_EACH = "A... .A.. ..A. ...A"
@@ -22,17 +22,6 @@ def card(name):
 
 def cards(names):
     return [card(name) for name in names.split()]
-
-
-def taker(trump, leader, trick):
-    """Who has a trick of four cards, told by holding them all against one another at once."""
-    led = trick[0] // 13
-
-    def strength(number):
-        suit = number // 13
-        return (suit == trump, suit == led, number % 13)
-
-    return (leader + trick.index(max(trick, key=strength))) % 4
 
 
 def stands(trump, leader, played):
