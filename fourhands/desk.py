@@ -5,7 +5,7 @@ from fourhands.bidding import hear_calls
 from fourhands.playing import play_cards
 from fourhands.reading import owners_of, read_deal
 from fourhands.scoring import points_of
-from fourhands.search import best_play
+from fourhands.search import all_worths, best_play
 
 LONGEST_TEXT = 300
 MOST_CARDS_SEARCHED = 8
@@ -54,13 +54,32 @@ def best(trump, leader, text):
     if len(text) > LONGEST_TEXT or not may_lead(trump, leader):
         return [OUT_OF_RANGE]
     reader = read_deal(text)
-    if reader.refusal < 0:
-        return [reader.refusal]
-    if len(reader.hands[0]) > MOST_CARDS_SEARCHED:
-        return [TOO_MANY_CARDS]
+    refusal = refusal_to_search(reader)
+    if refusal < 0:
+        return [refusal]
     return best_play(trump, leader, reader.hands)
+
+
+def table(text):
+    """Answer 0, then for each trump and in it each leader the worth of leader's side; or a refusal."""
+    if len(text) > LONGEST_TEXT:
+        return [OUT_OF_RANGE]
+    reader = read_deal(text)
+    refusal = refusal_to_search(reader)
+    if refusal < 0:
+        return [refusal]
+    return [0] + all_worths(reader.hands)
 
 
 def may_lead(trump, leader):
     """Tell whether trump and leader are as said."""
     return 0 <= trump <= NO_TRUMP and 0 <= leader < PLAYERS
+
+
+def refusal_to_search(reader):
+    """Give back what the search for best play of reader's deal is refused by, 0 if by nothing."""
+    if reader.refusal < 0:
+        return reader.refusal
+    if len(reader.hands[0]) > MOST_CARDS_SEARCHED:
+        return TOO_MANY_CARDS
+    return 0

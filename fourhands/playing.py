@@ -7,15 +7,17 @@ NO_CARD = -1
 
 
 class Position:
-    """Where play stands. It isn't changed: each card makes another position of it."""
+    """Where play stands: the cards left, who's to play, the tricks of either side, and the trick that's not done.
+
+    Of that trick it keeps how many cards are laid, the suit led, the top card, which has it so far, and its holder.
+    A position isn't changed: each card makes another one of it, so that a search can go back to any.
+    """
 
     def __init__(self, trump, hands, turn, taken):
         self.trump = trump
         self.hands = hands
         self.turn = turn
-        # The tricks of either side that are done.
         self.taken = taken
-        # The trick that isn't done: how many cards lie in it, the suit led, the card that has it so far, and whose.
         self.laid = 0
         self.led = NO_SUIT
         self.top = NO_CARD

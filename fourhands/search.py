@@ -1,6 +1,6 @@
 """Looks for best play: what a side takes when all cards are seen and nobody errs, and by which cards."""
 
-from fourhands.basics import side_of
+from fourhands.basics import NO_TRUMP, PLAYERS, side_of
 from fourhands.playing import start_of_play
 
 
@@ -101,3 +101,14 @@ def best_play(trump, leader, hands):
     search = Search(len(hands[0]))
     start = start_of_play(trump, leader, hands)
     return [search.leaders_worth(start)] + search.best_line(start)
+
+
+def all_worths(hands):
+    """List for each trump, and in it for each leader, the worth of leader's side."""
+    worths = []
+    for trump in range(NO_TRUMP + 1):
+        # What is found out hangs on the trump, but not on who led first.
+        search = Search(len(hands[0]))
+        for leader in range(PLAYERS):
+            worths.append(search.leaders_worth(start_of_play(trump, leader, hands)))
+    return worths
