@@ -153,7 +153,8 @@ class NumbersOutOfRange(Case):
         for trump, leader in itertools.product((LOWEST, -1, 5, HIGHEST), (LOWEST, -1, 4, HIGHEST)):
             self.told(trump, leader, EXAMPLE, [-2])
 
-    def test_text_of_more_than_300_bytes(self):
+    def test_longest_text(self):
+        self.told(0, 0, "." * 300, [-103])
         self.told(0, 0, "." * 301, [-2])
 
 

@@ -256,7 +256,8 @@ class NumbersOutOfRange(Case):
         for trump, leader in itertools.product((0, 4), (0, 3)):
             self.told(trump, leader, EXAMPLE, [], [0, 0, 0, leader, 0])
 
-    def test_text_of_more_than_300_bytes(self):
+    def test_longest_text(self):
+        self.told(0, 0, "." * 300, [], [-103])
         self.told(0, 0, "." * 301, [], [-2])
 
 

@@ -101,7 +101,8 @@ class WrongDeals(Case):
         self.told("AKQJT... .AKQJT.. ..AKQJT. ..AKQJT.", [-6])
         self.told("AKQJT9... .AKQJT.. ..AKQJT. ...AKQJ", [-5])
 
-    def test_text_of_more_than_300_bytes(self):
+    def test_longest_text(self):
+        self.told("." * 300, [-103])
         self.told("." * 301, [-2])
 
     def test_more_than_eight_cards(self):
